@@ -1,0 +1,166 @@
+"""The ways to say a number: what the derivations of numbers of any size are worked out from (part B).
+
+A derivation with a multiplier has a part ahead of its word and a part behind it. Here 0 stands for a part
+of which nothing is said: it has one way, the empty phrase.
+"""
+
+# A number without derivations: as a part 0 has one, but as a number it has none.
+NO_NUMBER = -1
+
+
+def splits(system, number):
+    """The triples (word, part ahead, part behind) of the multipliers that can be outermost, in order."""
+    found = []
+    for word, value, most, unsaid, greatest_rest in system.multipliers:
+        count, rest = divmod(number, value)
+        if count >= 1 and rest <= greatest_rest and (most is None or count <= most):
+            ahead = 0 if unsaid and count == 1 else count
+            found.append((word, ahead, rest))
+    return found
+
+
+def peel(system, number):
+    """The pair of a head and a list of rests, the outermost one first.
+
+    Numbers above the bounded maximum are said with the endless multiplier alone, so that their parts make
+    one row, which a loop takes off, however long it is: each rest has the multiplier ahead of it. The head
+    and the rests have few splits, one in another, unless the head has no derivation at all.
+    """
+    if number < 1:
+        return NO_NUMBER, []
+    row = system.endless()
+    if row is None:
+        return number, []
+    _, value, _, unsaid, greatest_rest = row
+    maximum = system.bounded_maximum()
+    head = number
+    rests = []
+    while head > maximum and head >= value:
+        count, rest = divmod(head, value)
+        if rest > greatest_rest:
+            break
+        rests.append(rest)
+        head = 0 if unsaid and count == 1 else count
+    return head, rests
+
+
+class Ways:
+    """The derivations of heads and rests in a system; what is found out is kept."""
+
+    def __init__(self, system):
+        self._system = system
+        self._names = {}
+        for word, value in system.simple:
+            self._names.setdefault(value, []).append(word)
+        self._many = {0: 1}
+        self._shortest = {0: ()}
+
+    def names_of(self, part):
+        """The simple words with this value, in order."""
+        return self._names.get(part, [])
+
+    def splits_of(self, part):
+        """The splits of a part."""
+        return splits(self._system, part)
+
+    def many_of(self, part):
+        """How many derivations a part has."""
+        if part not in self._many:
+            total = len(self.names_of(part))
+            for _, ahead, behind in self.splits_of(part):
+                total += self.many_of(ahead) * self.many_of(behind)
+            self._many[part] = total
+        return self._many[part]
+
+    def phrase_of(self, part, index):
+        """The phrase of the derivation of a part with this index, from 0 on, or None if none has it."""
+        if index >= self.many_of(part):
+            return None
+        if part == 0:
+            return ()
+        names = self.names_of(part)
+        if index < len(names):
+            return (names[index],)
+        left = index - len(names)
+        for word, ahead, behind in self.splits_of(part):
+            many = self.many_of(behind)
+            total = self.many_of(ahead) * many
+            if left < total:
+                return self.phrase_of(ahead, left // many) + (word,) + self.phrase_of(behind, left % many)
+            left -= total
+        return None
+
+    def shortest_of(self, part):
+        """The phrase of the shortest derivation of a part, or None."""
+        if part not in self._shortest:
+            self._shortest[part] = self._find_shortest(part)
+        return self._shortest[part]
+
+    def _find_shortest(self, part):
+        names = self.names_of(part)
+        if names:
+            return (names[0],)
+        best = None
+        for word, ahead, behind in self.splits_of(part):
+            if self.many_of(ahead) > 0 and self.many_of(behind) > 0:
+                # The shortest derivations of both parts make the first one of the shortest with this word.
+                phrase = self.shortest_of(ahead) + (word,) + self.shortest_of(behind)
+                if best is None or len(phrase) < len(best):
+                    best = phrase
+        return best
+
+
+def last_place(words, word, start, stop):
+    """The last index from start to less than stop at which the word stands, or -1."""
+    for index in range(stop - 1, start - 1, -1):
+        if words[index] == word:
+            return index
+    return -1
+
+
+class Finder:
+    """The indexes of derivations that yield slices of one tuple of words; what is found out is kept."""
+
+    def __init__(self, ways, words):
+        self._ways = ways
+        self._words = words
+        self._found = {}
+
+    def index_within(self, part, start, stop):
+        """The index of the first derivation of a part that yields the words from start to stop, or None."""
+        key = (part, start, stop)
+        if key not in self._found:
+            self._found[key] = self._find(part, start, stop)
+        return self._found[key]
+
+    def _find(self, part, start, stop):
+        if part == 0:
+            return 0 if start == stop else None
+        # A count and a rest, each of them plus 1, multiply to at most their number plus 1, and a value is at
+        # least 2; so a number n is said in at most 2 * log2(n + 1) - 1 words, and longer slices yield nothing.
+        if not 0 < stop - start < 2 * part.bit_length():
+            return None
+        names = self._ways.names_of(part)
+        if stop - start == 1 and self._words[start] in names:
+            return names.index(self._words[start])
+        before = len(names)
+        for word, ahead, behind in self._ways.splits_of(part):
+            index = self._find_split((word, ahead, behind), start, stop)
+            if index is not None:
+                return before + index
+            before += self._ways.many_of(ahead) * self._ways.many_of(behind)
+        return None
+
+    def _find_split(self, split, start, stop):
+        word, ahead, behind = split
+        # A rest is less than the value of its multiplier, so this word cannot stand in it again.
+        place = last_place(self._words, word, start, stop)
+        if place < 0:
+            return None
+        last = self.index_within(behind, place + 1, stop)
+        if last is None:
+            return None
+        first = self.index_within(ahead, start, place)
+        if first is None:
+            return None
+        return first * self._ways.many_of(behind) + last
