@@ -1,11 +1,21 @@
-"""The ways to say a number: what the derivations of numbers of any size are worked out from (part B).
+"""The ways to say a number, and the numbers that words mean: what the other files work with (parts B to F).
 
 A derivation with a multiplier has a part ahead of its word and a part behind it. Here 0 stands for a part
 of which nothing is said: it has one way, the empty phrase.
 """
 
+from sayonce.systems import is_spoken
+
 # A number without derivations: as a part 0 has one, but as a number it has none.
 NO_NUMBER = -1
+
+
+def least_number(system):
+    """The least number that has a derivation, or None."""
+    # A multiplier with something ahead of it means more than that.
+    found = [value for _, value in system.simple]
+    found.extend([row[1] for row in system.multipliers if row[3]])
+    return min(found, default=None)
 
 
 def splits(system, number):
@@ -164,3 +174,86 @@ class Finder:
         if first is None:
             return None
         return first * self._ways.many_of(behind) + last
+
+
+class Chart:
+    """The numbers that the slices of a row of words mean, worked out word by word.
+
+    Only the least numbers of each slice are kept, as many as asked for. The least ones of its parts are enough
+    for them: nothing but being too large bars a number, except for a count of 1 that is unsaid, and a slice
+    that means 1 is a single word, which means nothing else.
+    """
+
+    def __init__(self, system, keep):
+        """Reads no words yet; keep is how many numbers of each slice are kept, None for all."""
+        self._system = system
+        self._keep = keep
+        self._words = []
+        self._columns = []
+        rests = [row[4] for row in system.multipliers]
+        # A rest has fewer words than this: see Finder.
+        self._longest = 2 * max(rests, default=0).bit_length()
+
+    def read(self, word):
+        """Reads a word of the system behind the others."""
+        self._words.append(word)
+        stop = len(self._words)
+        roots = []
+        if self._system.multiplier(word) is not None:
+            roots.append((stop - 1, (0,)))
+        column = {}
+        for start in range(stop - 1, max(0, stop - self._longest), -1):
+            # What does not begin with the first word is, or begins, the rest of the word ahead of it.
+            row = self._system.multiplier(self._words[start - 1])
+            if row is not None:
+                numbers = self._least(start, roots, row[4])
+                if numbers:
+                    column[start] = numbers
+                    roots.append((start - 1, numbers))
+        column[0] = self._least(0, roots, None)
+        self._columns.append(column)
+
+    def unread(self):
+        """Takes the last word away."""
+        self._words.pop()
+        self._columns.pop()
+
+    def numbers(self, start, stop):
+        """The ascending tuple of the least numbers that the words from start to stop mean.
+
+        If start is not 0, up to the greatest rest of the word ahead of them.
+        """
+        return self._columns[stop - 1].get(start, ())
+
+    def counts(self, start, place):
+        """The ascending list of the least counts, said from start on, of the multiplier at this place."""
+        row = self._system.multiplier(self._words[place])
+        if place == start:
+            return [1] if row[3] else []
+        return [count for count in self.numbers(start, place) if is_spoken(row, count)]
+
+    def total(self, count, value, rest):
+        """The number with this count and this rest of a multiplier with this value."""
+        return count * value + rest
+
+    def _least(self, start, roots, limit):
+        found = []
+        if start == len(self._words) - 1:
+            value = self._system.simple_value(self._words[start])
+            if value is not None:
+                found.append(value)
+        for place, rests in roots:
+            found.extend(self._rooted(start, place, rests, limit))
+        if limit is not None:
+            found = [number for number in found if number <= limit]
+        return tuple(sorted(set(found))[:self._keep])
+
+    def _rooted(self, start, place, rests, limit):
+        value = self._system.multiplier(self._words[place])[1]
+        counts = self.counts(start, place)
+        if limit is not None:
+            counts = [count for count in counts if count * value <= limit]
+        if self._keep is not None:
+            # With the same rests, the counts behind these make greater numbers alone.
+            counts = counts[:(self._keep - 1) // len(rests) + 1]
+        return [self.total(count, value, rest) for count in counts for rest in rests]

@@ -6,7 +6,7 @@ import os
 import unittest
 
 import sayonce
-from sayonce import derivations, errors, systems, texts
+from sayonce import ambiguity, coverage, derivations, errors, phrases, reader, systems, texts
 
 FOLDER = os.path.dirname(os.path.abspath(sayonce.__file__))
 
@@ -15,10 +15,27 @@ BUILTINS = (
     "any all divmod Exception ValueError TypeError KeyError IndexError LookupError ZeroDivisionError"
 ).split()
 
+# The methods of builtin values that L25 lists first.
+BUILTIN_METHODS = (
+    "append clear copy count endswith extend find get index insert isalnum isalpha isdigit islower isspace isupper items "
+    "join keys ljust lower lstrip partition pop remove replace reverse rfind rjust rpartition rsplit rstrip setdefault "
+    "split splitlines startswith strip update upper values zfill bit_length"
+).split()
+
+# L17, L2 and the like: words that no code has.
+BARRED = (
+    "register mro elements open input law version_info with_traceback add_note type typing enum Enum dataclass namedtuple "
+    "compile dir eval exec exit gc globals help id locals os quit super vars sys copyright license global async await lambda"
+).split()
+
 METHODS = {
     systems.System: {
         "words": "(self)", "simple_value": "(self, word)", "multiplier": "(self, word)", "endless": "(self)",
         "bounded_maximum": "(self)",
+    },
+    reader.Reader: {
+        "bounds": "(self)", "push": "(self, word)", "pop": "(self)", "allows": "(self, value)", "words": "(self)",
+        "meanings": "(self)",
     },
 }
 
@@ -33,6 +50,33 @@ CALLS = {
         "index_of": "(system, number, phrase)", "shortest_phrase": "(system, number)",
         "phrases_of": "(system, number, *, most=100)",
     },
+    phrases: {
+        "values": "(system, phrase)", "trees": "(system, phrase)", "error_index": "(system, phrase)",
+        "next_words": "(system, phrase)",
+    },
+    ambiguity: {
+        "conflict": "(system)", "middles": "(system, first, second)", "is_ambiguous": "(system, phrase)",
+        "max_count": "(system, word)", "max_rest": "(system, word)",
+    },
+    coverage: {
+        "first_gap": "(system)", "first_double": "(system)", "sayable_count": "(system, start, stop)",
+        "certificate": "(system)", "is_certificate": "(system, steps)",
+    },
+    reader: {"Reader": "(system)"},
+}
+
+# The classes of errors, each with the class that it stands under.
+ERRORS = {
+    systems.BadSystem: errors.SayError, texts.BadText: errors.SayError, texts.TooLong: errors.SayError,
+    derivations.UnknownWord: errors.SayError, phrases.TooManyAnswers: errors.SayError,
+    ambiguity.NotMultiplier: errors.SayError, reader.ReaderError: errors.SayError,
+    reader.NotInSystem: reader.ReaderError, reader.TooManyWords: reader.ReaderError,
+    reader.NotPossible: reader.ReaderError, reader.NoWord: reader.ReaderError,
+}
+
+PLACES = {
+    phrases: ("TooManyAnswers",), ambiguity: ("NotMultiplier",), texts: ("TooLong",), errors: ("SayError",),
+    reader: ("ReaderError", "NotInSystem", "TooManyWords", "NotPossible", "NoWord"),
 }
 
 
@@ -72,8 +116,11 @@ class Interface(unittest.TestCase):
 
     def test_errors(self):
         self.assertEqual(errors.SayError.__bases__, (ValueError,))
-        for error in (systems.BadSystem, texts.BadText, texts.TooLong, derivations.UnknownWord):
-            self.assertEqual(error.__bases__, (errors.SayError,))
+        for error, base in ERRORS.items():
+            self.assertEqual(error.__bases__, (base,))
+        for module, names in PLACES.items():
+            for name in names:
+                self.assertEqual(getattr(module, name).__module__, module.__name__)
 
 
 class Rules(unittest.TestCase):
@@ -109,6 +156,34 @@ class Rules(unittest.TestCase):
                 if isinstance(node, ast.ImportFrom):
                     self.assertEqual(node.level, 0)
                     self.assertTrue(node.module.startswith("sayonce."), (name, node.module))
+
+    def test_barred_names(self):
+        for name, source in sources():
+            for node in ast.walk(ast.parse(source)):
+                for field in ("id", "attr", "name", "arg"):
+                    self.assertNotIn(getattr(node, field, None), BARRED, (name, field))
+
+    def test_methods_called(self):
+        own = set()
+        for _, source in sources():
+            own.update(node.name for node in ast.walk(ast.parse(source)) if isinstance(node, ast.FunctionDef))
+        for name, source in sources():
+            for node in ast.walk(ast.parse(source)):
+                if isinstance(node, ast.Call) and isinstance(node.func, ast.Attribute):
+                    self.assertIn(node.func.attr, own | set(BUILTIN_METHODS), (name, node.lineno))
+
+    def test_sets_are_passed_at_once(self):
+        """L24: set(..) and set comprehensions stand directly in sorted(..) or len(..)."""
+        for name, source in sources():
+            tree = ast.parse(source)
+            passed = [
+                id(node.args[0]) for node in ast.walk(tree)
+                if isinstance(node, ast.Call) and getattr(node.func, "id", None) in ("sorted", "len")
+            ]
+            for node in ast.walk(tree):
+                called = isinstance(node, ast.Call) and getattr(node.func, "id", None) == "set"
+                if called or isinstance(node, ast.SetComp):
+                    self.assertIn(id(node), passed, (name, node.lineno))
 
 
 if __name__ == "__main__":
