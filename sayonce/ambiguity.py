@@ -3,7 +3,7 @@
 from sayonce.derivations import check_phrase, phrase_at
 from sayonce.errors import SayError
 from sayonce.systems import GREATEST
-from sayonce.ways import Chart, Ways, least_number
+from sayonce.ways import Chart, least_number, ways_of
 
 
 class NotMultiplier(SayError):
@@ -95,7 +95,7 @@ def middles(system, first, second):
     last = pair.first[4] // value
     if most is not None:
         last = min(last, most - pair.opening())
-    ways = Ways(system)
+    ways = ways_of(system)
     found = [0] if unsaid else []
     found.extend([m for m in range(2 if unsaid else 1, last + 1) if ways.many_of(m) > 0])
     return tuple(found)
@@ -105,44 +105,59 @@ class LongChart(Chart):
     """A chart of a phrase of any length that tells numbers apart without working out the large ones.
 
     A number above the greatest one that a system has bounds for has the endless multiplier as its outermost
-    word. Its count and its rest tell it from all others, so the number that is given to these two, one above
-    the greatest again, stands for it.
+    word. It is the last place of this word in the phrase, as the word is too large for its own rest. So the count
+    and the rest tell such a number from all others, and come but once; another number above the greatest one
+    stands for it.
     """
 
     def __init__(self, system, keep):
         Chart.__init__(self, system, keep)
-        self._given = {}
+        self._parts = []
 
     def total(self, count, value, rest):
         """The number with this count and this rest, or what stands for it."""
         number = count * value + rest
         if number <= GREATEST:
             return number
-        return self._given.setdefault((count, rest), GREATEST + 1 + len(self._given))
+        self._parts.append((count, value, rest))
+        return GREATEST + len(self._parts)
+
+    def worth(self, number):
+        """The number that this one stands for, worked out."""
+        head = number
+        peeled = []
+        while head > GREATEST:
+            head, value, rest = self._parts[head - GREATEST - 1]
+            peeled.append((value, rest))
+        for value, rest in reversed(peeled):
+            head = head * value + rest
+        return head
 
 
 def is_ambiguous(system, phrase):
     """True if the phrase means two numbers."""
     check_phrase(system, phrase)
-    chart = LongChart(system, 2)
-    numbers = ()
-    for index, word in enumerate(phrase):
-        chart.read(word)
-        numbers = chart.numbers(0, index + 1)
-        if not numbers:
-            return False
-    return len(numbers) == 2
+    return len(LongChart(system, 2).read_phrase(phrase)) == 2
 
 
-def with_row(system, changed):
-    """The multipliers of the system, this one in the place of the one with its word."""
-    return [changed if row[0] == changed[0] else row for row in system.multipliers]
+def least_meaning(system, phrase):
+    """The least number that a phrase of any length means, or None."""
+    # The least count and the least rest make the least large number, so that there is no choice among what stands
+    # for large ones, which need not be in their order.
+    chart = LongChart(system, 1)
+    numbers = chart.read_phrase(phrase)
+    return chart.worth(numbers[0]) if numbers else None
+
+
+def with_row(rows, changed):
+    """The rows, this one in the place of the one with its word."""
+    return [changed if row[0] == changed[0] else row for row in rows]
 
 
 def max_count(system, word):
     """The greatest greatest count of a multiplier with which the system is unambiguous: 0 for none, None for all."""
     _, value, _, unsaid, rest = multiplier_of(system, word)
-    rows = with_row(system, (word, value, None, unsaid, rest))
+    rows = with_row(system.multipliers, (word, value, None, unsaid, rest))
     needed = []
     for pair in conflicting_pairs(least_number(system), rows):
         # The count that this conflict needs as P, and as Q.
@@ -155,7 +170,7 @@ def max_count(system, word):
 def max_rest(system, word):
     """The greatest rest of a multiplier with which the system is unambiguous, or None."""
     _, value, count, unsaid, _ = multiplier_of(system, word)
-    rows = with_row(system, (word, value, count, unsaid, value - 1))
+    rows = with_row(system.multipliers, (word, value, count, unsaid, value - 1))
     needed = [value]
     for pair in conflicting_pairs(least_number(system), rows):
         if pair.first[0] != word:

@@ -64,104 +64,151 @@ def first_gap(system):
     return None if covered >= bound_of(system) else covered + 1
 
 
-def many_up_to(system, last, stop_at_double):
-    """The list of how many derivations each number from 0 to last has, 0 having one, nothing.
-
-    If asked to, it stops behind the first number that has two or more.
-    """
-    names = {}
-    for _, value in system.simple:
-        names[value] = names.get(value, 0) + 1
-    rows = [
-        (value, last if most is None else most, unsaid, rest)
-        for _, value, most, unsaid, rest in system.multipliers
+def rows_up_to(system, last):
+    """The multipliers, each with a greatest count that bars no number up to last."""
+    return [
+        (word, value, last if most is None else most, unsaid, rest)
+        for word, value, most, unsaid, rest in system.multipliers
     ]
-    many = [1]
-    for number in range(1, last + 1):
-        total = names.get(number, 0)
-        for value, most, unsaid, greatest_rest in rows:
-            count, rest = divmod(number, value)
-            if 1 <= count <= most and rest <= greatest_rest:
-                total += many[0 if unsaid and count == 1 else count] * many[rest]
-        many.append(total)
-        if stop_at_double and total > 1:
-            break
-    return many
 
 
 def first_double(system):
     """The least number that has two derivations or more, or None."""
-    many = many_up_to(system, system.bounded_maximum(), True)
-    return len(many) - 1 if many[-1] > 1 else None
+    names = {}
+    for _, value in system.simple:
+        names[value] = names.get(value, 0) + 1
+    last = system.bounded_maximum()
+    rows = rows_up_to(system, last)
+    # How many derivations each number has, 0 having one, nothing.
+    many = [1]
+    for number in range(1, last + 1):
+        total = names.get(number, 0)
+        for _, value, most, unsaid, greatest_rest in rows:
+            count, rest = divmod(number, value)
+            if 1 <= count <= most and rest <= greatest_rest:
+                total += many[0 if unsaid and count == 1 else count] * many[rest]
+        if total > 1:
+            return number
+        many.append(total)
+    return None
+
+
+def first_with(rows, found, number):
+    """How many counted words the first derivation of a number that begins with a multiplier has, or None.
+
+    A row has 1 in the place of its word if this is counted, otherwise 0; found has this of all lesser numbers.
+    """
+    for own, value, most, unsaid, greatest_rest in rows:
+        count, rest = divmod(number, value)
+        if 1 <= count <= most and rest <= greatest_rest:
+            ahead = found[0 if unsaid and count == 1 else count]
+            behind = found[rest]
+            if ahead is not None and behind is not None:
+                return ahead + own + behind
+    return None
+
+
+def said_up_to(system, last, counted):
+    """The list of how many counted words the first derivation of each number from 0 to last has, None without one.
+
+    Of 0 as a part nothing is said, so it has 0. What is counted is given as a tuple of words.
+    """
+    names = {}
+    for word, value in system.simple:
+        names.setdefault(value, 1 if word in counted else 0)
+    rows = [(1 if row[0] in counted else 0,) + row[1:] for row in rows_up_to(system, last)]
+    found = [0]
+    for number in range(1, last + 1):
+        many = names.get(number)
+        found.append(first_with(rows, found, number) if many is None else many)
+    return found
 
 
 class Census:
-    """How many numbers are said up to numbers of any size, in a system.
+    """How many numbers are said up to numbers of any size, in a system, and how many counted words with them.
 
     What is worked out one by one are the numbers up to the bounded maximum. Those above it have the endless
     multiplier as their outermost word, so that what is known of a count tells what is known behind it.
     """
 
-    def __init__(self, system, last):
-        """For numbers up to last."""
+    def __init__(self, system, last, counted):
+        """For numbers up to last, and first derivations; counted is a tuple of words."""
         self._row = system.endless()
+        self._own = 1 if self._row is not None and self._row[0] in counted else 0
         self._maximum = system.bounded_maximum()
-        many = many_up_to(system, min(self._maximum, last), False)
-        self._totals = [0]
-        for ways in many[1:]:
-            self._totals.append(self._totals[-1] + (1 if ways > 0 else 0))
+        self._found = said_up_to(system, min(self._maximum, last), counted)
+        # Of 0 nothing is said, so as a number it does not count.
+        self._sums = [(0, 0)]
+        for words in self._found[1:]:
+            many, total = self._sums[-1]
+            self._sums.append((many, total) if words is None else (many + 1, total + words))
 
     def up_to(self, number):
-        """How many numbers from 1 to this one are said."""
+        """The pair of how many numbers from 1 to this one are said, and how many counted words with them."""
         rests = []
         head = number
         while self._row is not None and head > self._maximum and head >= self._row[1]:
             head, rest = divmod(head, self._row[1])
             rests.append(rest)
-        total, is_said = self._small(head), self._small_said(head)
+        sums, words = self._small_sums(head), self._small(head)
         for rest in reversed(rests):
-            total, is_said = self._behind(head, total, is_said, rest)
+            sums, words = self._behind(head, sums, words, rest)
             head = head * self._row[1] + rest
-        return total
+        return sums
+
+    def _small_sums(self, number):
+        """What up_to tells of a number that is within the bounded maximum, or less than the endless value."""
+        return self._sums[min(number, len(self._sums) - 1)]
 
     def _small(self, number):
-        """How many are said up to a number that is within the bounded maximum, or less than the endless value."""
-        return self._totals[min(number, len(self._totals) - 1)]
+        """How many counted words are said of such a number, or None; of 0 there are none."""
+        return self._found[number] if number < len(self._found) else None
 
-    def _small_said(self, number):
-        return number > 0 and self._small(number) > self._small(number - 1)
-
-    def _behind(self, count, total, is_said, rest):
-        """What up_to tells of the number with this count and rest, by what is known of the count; and if it is said."""
+    def _behind(self, count, sums, words, rest):
+        """The sums, and the words, of the number with this count and rest, by those of the count."""
         _, value, _, _, greatest_rest = self._row
-        with_endless = self._endless_up_to(count, total, is_said, rest)
+        many, total = self._small_sums(self._maximum)
         head, left = divmod(self._maximum, value)
-        bounded = self._endless_up_to(head, self._small(head), self._small_said(head), left)
-        allowed = rest == 0 or (rest <= greatest_rest and self._small_said(rest))
-        return self._small(self._maximum) + with_endless - bounded, allowed and self._stands(count, is_said)
+        bounded = self._endless_up_to(head, self._small_sums(head), self._small(head), left)
+        endless = self._endless_up_to(count, sums, words, rest)
+        behind = self._small(rest)
+        ahead = self._ahead(count, words)
+        if ahead is None or behind is None or rest > greatest_rest:
+            found = None
+        else:
+            found = ahead + self._own + behind
+        return (many + endless[0] - bounded[0], total + endless[1] - bounded[1]), found
 
-    def _stands(self, count, is_said):
-        """True if the count can stand ahead of the endless multiplier, said or unsaid."""
-        return is_said or (count == 1 and self._row[3])
+    def _ahead(self, count, words):
+        """How many counted words stand ahead of the endless multiplier with this count, or None if it cannot be."""
+        return 0 if count == 1 and self._row[3] else words
 
-    def _endless_up_to(self, count, total, is_said, rest):
-        """How many numbers up to the one with this count and rest have the endless multiplier as outermost word."""
+    def _endless_up_to(self, count, sums, words, rest):
+        """The sums of the numbers up to the one with this count and rest whose outermost word is the endless one."""
         if count == 0:
-            return 0
-        greatest_rest = self._row[4]
-        before = total - (1 if is_said else 0)
-        if count > 1 and self._row[3] and not self._small_said(1):
-            before += 1
-        found = before * (1 + self._small(greatest_rest))
-        if self._stands(count, is_said):
-            found += 1 + self._small(min(rest, greatest_rest))
-        return found
+            return 0, 0
+        many, total = sums
+        one = self._small(1)
+        if self._row[3]:
+            # Where one is not said, it can be a count all the same; nothing stands ahead then.
+            many, total = (many + 1, total) if one is None else (many, total - one)
+        ahead = self._ahead(count, words)
+        if ahead is None:
+            return self._block(many, total, self._row[4])
+        before = self._block(many - 1, total - ahead, self._row[4])
+        last = self._block(1, ahead, min(rest, self._row[4]))
+        return before[0] + last[0], before[1] + last[1]
+
+    def _block(self, counts, total, rest):
+        """The sums of the numbers of so many counts, which have so many words in all, with all rests up to this one."""
+        many, words = self._small_sums(rest)
+        return counts * (1 + many), (total + counts * self._own) * (1 + many) + counts * words
 
 
 def sayable_count(system, start, stop):
     """How many numbers from start to stop, both included, are said."""
-    census = Census(system, stop)
-    return census.up_to(stop) - census.up_to(start - 1)
+    census = Census(system, stop, ())
+    return census.up_to(stop)[0] - census.up_to(start - 1)[0]
 
 
 def certifiable(system):

@@ -1,7 +1,7 @@
 """Derivations of a number: how many, which one has an index, and which is the shortest (part B)."""
 
 from sayonce.errors import SayError
-from sayonce.ways import Finder, Ways, last_place, peel
+from sayonce.ways import Finder, last_place, peel, ways_of
 
 
 class UnknownWord(SayError):
@@ -20,7 +20,7 @@ def check_phrase(system, phrase):
 
 def derivation_count(system, number):
     """How many derivations a number has."""
-    ways = Ways(system)
+    ways = ways_of(system)
     head, rests = peel(system, number)
     total = ways.many_of(head)
     for rest in rests:
@@ -58,14 +58,14 @@ def phrase_at(system, number, index):
     """The phrase of the derivation with this index, or None."""
     if index < 0:
         return None
-    return nth_phrase(system, Ways(system), peel(system, number), index)
+    return nth_phrase(system, ways_of(system), peel(system, number), index)
 
 
 def index_of(system, number, phrase):
     """The index of the first derivation of the number that yields the phrase, or None."""
     words = tuple(phrase)
     check_phrase(system, words)
-    ways = Ways(system)
+    ways = ways_of(system)
     finder = Finder(ways, words)
     head, rests = peel(system, number)
     stop = len(words)
@@ -90,7 +90,7 @@ def index_of(system, number, phrase):
 
 def shortest_phrase(system, number):
     """The phrase of the shortest derivation, or None."""
-    ways = Ways(system)
+    ways = ways_of(system)
     head, rests = peel(system, number)
     phrase = ways.shortest_of(head)
     pieces = [ways.shortest_of(rest) for rest in rests]
@@ -101,7 +101,7 @@ def shortest_phrase(system, number):
 
 def phrases_of(system, number, *, most=100):
     """The phrases of the first derivations of a number, in order, up to most of them."""
-    ways = Ways(system)
+    ways = ways_of(system)
     peeled = peel(system, number)
     told = min(most, derivation_count(system, number))
     return tuple([nth_phrase(system, ways, peeled, index) for index in range(told)])

@@ -2,7 +2,7 @@
 
 from sayonce.errors import SayError
 from sayonce.systems import is_spoken
-from sayonce.ways import Chart, Ways, least_number, peel
+from sayonce.ways import Chart, least_number, peel, ways_of
 
 MOST_WORDS = 24
 
@@ -104,7 +104,7 @@ class Places:
 
     def __init__(self, system, words):
         self._words = words
-        self._ways = Ways(system)
+        self._ways = ways_of(system)
         self._kept = {}
 
     def ends(self, part, start):

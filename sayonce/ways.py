@@ -1,4 +1,4 @@
-"""The ways to say a number, and the numbers that words mean: what the other files work with (parts B to F).
+"""The ways to say a number, and the numbers that words mean: what the other files work with (parts B to I).
 
 A derivation with a multiplier has a part ahead of its word and a part behind it. Here 0 stands for a part
 of which nothing is said: it has one way, the empty phrase.
@@ -16,17 +16,6 @@ def least_number(system):
     found = [value for _, value in system.simple]
     found.extend([row[1] for row in system.multipliers if row[3]])
     return min(found, default=None)
-
-
-def splits(system, number):
-    """The triples (word, part ahead, part behind) of the multipliers that can be outermost, in order."""
-    found = []
-    for word, value, most, unsaid, greatest_rest in system.multipliers:
-        count, rest = divmod(number, value)
-        if count >= 1 and rest <= greatest_rest and (most is None or count <= most):
-            ahead = 0 if unsaid and count == 1 else count
-            found.append((word, ahead, rest))
-    return found
 
 
 def peel(system, number):
@@ -55,13 +44,14 @@ def peel(system, number):
 
 
 class Ways:
-    """The derivations of heads and rests in a system; what is found out is kept."""
+    """The derivations of heads and rests; what is found out is kept."""
 
-    def __init__(self, system):
-        self._system = system
+    def __init__(self, simple, rows):
+        """Of these simple words, and of multipliers (word, value, least count, greatest count, unsaid, rest)."""
         self._names = {}
-        for word, value in system.simple:
+        for word, value in simple:
             self._names.setdefault(value, []).append(word)
+        self._rows = rows
         self._many = {0: 1}
         self._shortest = {0: ()}
 
@@ -70,8 +60,14 @@ class Ways:
         return self._names.get(part, [])
 
     def splits_of(self, part):
-        """The splits of a part."""
-        return splits(self._system, part)
+        """The triples (word, part ahead, part behind) of the multipliers that can be outermost, in order."""
+        found = []
+        for word, value, least, most, unsaid, greatest_rest in self._rows:
+            count, rest = divmod(part, value)
+            if count >= least and rest <= greatest_rest and (most is None or count <= most):
+                ahead = 0 if unsaid and count == 1 else count
+                found.append((word, ahead, rest))
+        return found
 
     def many_of(self, part):
         """How many derivations a part has."""
@@ -118,6 +114,12 @@ class Ways:
                 if best is None or len(phrase) < len(best):
                     best = phrase
         return best
+
+
+def ways_of(system):
+    """The derivations of heads and rests in a system."""
+    rows = [(word, value, 1, most, unsaid, rest) for word, value, most, unsaid, rest in system.multipliers]
+    return Ways(system.simple, rows)
 
 
 def last_place(words, word, start, stop):
@@ -195,7 +197,7 @@ class Chart:
         self._longest = 2 * max(rests, default=0).bit_length()
 
     def read(self, word):
-        """Reads a word of the system behind the others."""
+        """Reads a word behind the others."""
         self._words.append(word)
         stop = len(self._words)
         roots = []
@@ -212,6 +214,19 @@ class Chart:
                     roots.append((start - 1, numbers))
         column[0] = self._least(0, roots, None)
         self._columns.append(column)
+
+    def read_phrase(self, phrase):
+        """Reads a phrase, as long as its words mean anything; returns the numbers of what was read.
+
+        A word that the system does not have means nothing.
+        """
+        numbers = ()
+        for word in phrase:
+            self.read(word)
+            numbers = self.numbers(0, len(self._words))
+            if not numbers:
+                break
+        return numbers
 
     def unread(self):
         """Takes the last word away."""

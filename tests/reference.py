@@ -159,3 +159,129 @@ def small_system(chance):
         count = None if at == endless else chance.randint(1, 10)
         multipliers.append((word, value, count, chance.random() < 0.6, chance.randint(0, value - 1)))
     return System(simple, multipliers)
+
+
+def first_phrase(system, number, known):
+    """[B2], [H1]: what is said of a number, or None; known is a dict for what was found out."""
+    if number not in known:
+        known[number] = next(first_phrases(system, number, known), None)
+    return known[number]
+
+
+def first_phrases(system, number, known):
+    """The first phrase with each outermost word of a number, in order."""
+    yield from [(word,) for word, value in system.simple if value == number]
+    for word, value, most, unsaid, greatest_rest in system.multipliers:
+        count, rest = divmod(number, value)
+        if 1 <= count <= (number if most is None else most) and rest <= greatest_rest:
+            ahead = () if unsaid and count == 1 else first_phrase(system, count, known)
+            behind = () if rest == 0 else first_phrase(system, rest, known)
+            if ahead is not None and behind is not None:
+                yield ahead + (word,) + behind
+
+
+def derivation_trees(system, number, known):
+    """[B1], [B2]: the trees of all derivations of a number, in order."""
+    if number not in known:
+        found = [word for word, value in system.simple if value == number]
+        for word, value, most, unsaid, greatest_rest in system.multipliers:
+            count, rest = divmod(number, value)
+            if 1 <= count <= (number if most is None else most) and rest <= greatest_rest:
+                ahead = [None] if unsaid and count == 1 else derivation_trees(system, count, known)
+                behind = [None] if rest == 0 else derivation_trees(system, rest, known)
+                found.extend([(first, word, last) for first in ahead for last in behind])
+        known[number] = found
+    return known[number]
+
+
+def tree_value(system, tree):
+    """The number of a tree, or None if it is no derivation of the system."""
+    if isinstance(tree, str):
+        return system.simple_value(tree)
+    first, word, last = tree
+    row = system.multiplier(word)
+    if row is None:
+        return None
+    count = 1 if first is None else tree_value(system, first)
+    rest = 0 if last is None else tree_value(system, last)
+    if count is None or rest is None or rest > row[4] or (row[2] is not None and count > row[2]):
+        return None
+    if (first is None) != (row[3] and count == 1):
+        return None
+    return count * row[1] + rest
+
+
+def tree_phrase(tree):
+    if tree is None:
+        return ()
+    if isinstance(tree, str):
+        return (tree,)
+    return tree_phrase(tree[0]) + (tree[1],) + tree_phrase(tree[2])
+
+
+class Two:
+    """[G1] to [G3] for two systems that define no word differently, with M and X up to top."""
+
+    def __init__(self, first, second, top):
+        self.first = first
+        self.second = second
+        self.top = top
+        self.known = {}
+
+    def common_phrases(self, number):
+        trees = derivation_trees(self.first, number, self.known)
+        return [tree_phrase(tree) for tree in trees if tree_value(self.second, tree) is not None]
+
+    def conflicts(self):
+        """The triples (conflict, phrase, numbers)."""
+        words = [row[0] for row in self.first.multipliers if self.second.multiplier(row[0]) is not None]
+        return [found for p in words for q in words for found in self.conflicts_of(p, q)]
+
+    def first_count(self, word):
+        rows = (self.first.multiplier(word), self.second.multiplier(word))
+        if rows[0][3] and rows[1][3]:
+            return 0
+        for count in range(1 if rows[0][3] == rows[1][3] else 2, self.top + 1):
+            if all(row[2] is None or count <= row[2] for row in rows) and self.common_phrases(count):
+                return count
+        return None
+
+    def conflicts_of(self, p_word, q_word):
+        p_rows = (self.first.multiplier(p_word), self.second.multiplier(p_word))
+        q_rows = (self.first.multiplier(q_word), self.second.multiplier(q_word))
+        x = self.first_count(p_word)
+        for m in range(self.top + 1 if x is not None else 0):
+            p = (x or 1) * p_rows[0][1]
+            q = (m or 1) * q_rows[0][1]
+            spoken_first = q_rows[0][3] if m == 0 else spoken(q_rows[0], m) and self.common_phrases(m)
+            rests = q <= p_rows[0][4] and m <= p_rows[0][4] and m <= p_rows[1][4]
+            if spoken_first and rests and spoken(q_rows[1], p + m):
+                ahead = self.common_phrases(x)[0] if x else ()
+                between = self.common_phrases(m)[0] if m else ()
+                phrase = ahead + (p_word,) + between + (q_word,)
+                yield (p_word, q_word, x, m), phrase, (p + q, (p + m) * q_rows[0][1])
+
+
+def small_pair(chance):
+    """Two small systems that define no word differently, with many words in common."""
+    first = small_system(chance)
+    simple = [row for row in first.simple if chance.random() < 0.8]
+    simple.extend([(word, chance.randint(1, 9)) for word in "ef" if chance.random() < 0.3])
+    rows = [row for row in first.multipliers if chance.random() < 0.85]
+    rows.extend([(word, chance.randint(2, 9), 1, True, 1) for word in "yz" if chance.random() < 0.2])
+    endless = chance.randint(0, 5)
+    changed = []
+    for at, (word, value, count, unsaid, rest) in enumerate(rows):
+        if at == endless:
+            count = None
+        elif count is None or chance.random() < 0.6:
+            count = chance.randint(1, 12)
+        if chance.random() < 0.3:
+            unsaid = not unsaid
+        if chance.random() < 0.5:
+            rest = chance.randint(0, value - 1)
+        changed.append((word, value, count, unsaid, rest))
+    chance.shuffle(simple)
+    chance.shuffle(changed)
+    second = System(simple, changed)
+    return (first, second) if chance.random() < 0.5 else (second, first)

@@ -6,7 +6,9 @@ import os
 import unittest
 
 import sayonce
-from sayonce import ambiguity, coverage, derivations, errors, phrases, reader, systems, texts
+from sayonce import (
+    ambiguity, comparison, conflicts, counting, coverage, derivations, editor, errors, phrases, reader, systems, texts,
+)
 
 FOLDER = os.path.dirname(os.path.abspath(sayonce.__file__))
 
@@ -37,6 +39,12 @@ METHODS = {
         "bounds": "(self)", "push": "(self, word)", "pop": "(self)", "allows": "(self, value)", "words": "(self)",
         "meanings": "(self)",
     },
+    counting.Counting: {"say": "(self)"},
+    editor.Editor: {
+        "system": "(self)", "journal": "(self)", "set_simple": "(self, word, value)",
+        "set_multiplier": "(self, word, value, count, unsaid, rest)", "remove": "(self, word)", "undo": "(self)",
+        "redo": "(self)", "grade": "(self, number, phrase)", "check": "(self)",
+    },
 }
 
 CALLS = {
@@ -63,6 +71,19 @@ CALLS = {
         "certificate": "(system)", "is_certificate": "(system, steps)",
     },
     reader: {"Reader": "(system)"},
+    conflicts: {
+        "Mismatch": "(word)", "mismatch": "(first, second)", "common_system": "(first, second)",
+        "conflicts": "(first, second)", "first_conflict": "(first, second)",
+    },
+    comparison: {
+        "false_friend": "(first, second)", "conflict_counts": "(first, second)", "interpret": "(first, second, phrase)",
+        "translate": "(first, second, phrase)",
+    },
+    counting: {
+        "words_said": "(system, start, stop)", "times_said": "(system, start, stop, word)",
+        "longest_said": "(system, start, stop)", "Counting": "(system, number)",
+    },
+    editor: {"Editor": "(system)", "replayed": "(system, commands)", "EditorError": "(word)"},
 }
 
 # The classes of errors, each with the class that it stands under.
@@ -72,11 +93,15 @@ ERRORS = {
     ambiguity.NotMultiplier: errors.SayError, reader.ReaderError: errors.SayError,
     reader.NotInSystem: reader.ReaderError, reader.TooManyWords: reader.ReaderError,
     reader.NotPossible: reader.ReaderError, reader.NoWord: reader.ReaderError,
+    conflicts.Mismatch: errors.SayError, counting.BadRange: errors.SayError, counting.WordMissing: errors.SayError,
+    editor.EditorError: errors.SayError, editor.OtherKind: editor.EditorError, editor.NotThere: editor.EditorError,
+    editor.NothingLeft: editor.EditorError,
 }
 
 PLACES = {
     phrases: ("TooManyAnswers",), ambiguity: ("NotMultiplier",), texts: ("TooLong",), errors: ("SayError",),
     reader: ("ReaderError", "NotInSystem", "TooManyWords", "NotPossible", "NoWord"),
+    counting: ("BadRange", "WordMissing"), editor: ("OtherKind", "NotThere", "NothingLeft"),
 }
 
 
